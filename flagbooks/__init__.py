@@ -1,0 +1,1 @@
+"""Books of what flags say: flagbooks.desk has the calls."""

@@ -1,0 +1,117 @@
+"""The calls as calls: how long a text may be, the order of refusals, what is handed in and given back."""
+
+import contextlib
+import io
+import unittest
+
+from flagbooks.desk import judge, row
+from tests.helper import Untouched, book_of_size, book_words, locker_words, many_signs, text
+
+T = text(locker_words([("A", 1), ("B", 1)], [(1, 1)], 1))
+B = text(book_words(["A go", "B stop", "B.B wait a while"]))
+WIDE = text(locker_words(many_signs(48, 2)))
+LAST = 18446744073709551615
+
+
+class Refusals(unittest.TestCase):
+    def refused(self, answer, t, b):
+        self.assertEqual(judge(t, b), answer)
+        for i in (0, 1, LAST):
+            self.assertEqual(row(i, t, b), answer[:1])
+
+    def test_how_long_a_text_may_be(self):
+        longest = text(book_of_size(65536))
+        self.assertEqual(judge(WIDE, longest), [1000])
+        self.assertEqual(row(0, WIDE, longest), [1, 0])
+        self.refused([-2], WIDE, text(book_of_size(65537)))
+        self.refused([-9, 1, 0], T, [120] * 65536)
+        self.refused([-9, 1, 0], T, [10] * 65536)
+        self.refused([-9, 1, 5], T, B + [32] * (65536 - len(B)))
+        self.refused([-9, 1, 5], T, B + [10] * (65536 - len(B)))
+        self.refused([-6], T + [10] * (65536 - len(T)), B)
+        for size in (65537, 65538, 66000):
+            self.refused([-2], T, [0] * size)
+            self.refused([-2], T, B + [10] * (size - len(B)))
+            self.refused([-2], [0] * size, B)
+            self.refused([-2], T + [10] * (size - len(T)), B)
+
+    def test_too_long_comes_first(self):
+        self.refused([-2], [0] * 65537, [0] * 65537)
+        self.refused([-2], [0] * 65537, [])
+        self.refused([-2], [], [0] * 65537)
+
+    def test_the_locker_comes_before_the_book(self):
+        for b in ([], B, text("book X\n"), text("book X\nfor M\n"), [0] * 65536):
+            self.refused([-6], [], b)
+            self.refused([-6], T[:-1], b)
+            self.refused([-6], text("locker L\n"), b)
+
+    def test_the_book_comes_before_the_entry(self):
+        self.assertEqual(row(LAST, T, B[:-1]), [-9])
+        self.assertEqual(row(3, T, B + text("A x\n")), [-9])
+
+    def test_no_such_entry(self):
+        self.assertEqual(row(2, T, B), [2, 1, 1])
+        for i in (3, 4, 255, 2047, 2048, 2 ** 32, 2 ** 63, LAST):
+            self.assertEqual(row(i, T, B), [-4])
+        for i in (0, 1, LAST):
+            self.assertEqual(row(i, T, text(book_words([]))), [-4])
+
+    def test_a_book_is_for_its_locker(self):
+        other = text(locker_words([("B", 1), ("A", 1)], [(1, 1)], 1))
+        fewer = text(locker_words([("A", 1)], [(1, 1)], 1))
+        self.assertEqual(judge(other, B), [-9, 5, 3])
+        self.assertEqual(judge(fewer, B), [-9, 3, 3])
+        self.assertEqual(judge(text(locker_words([("A", 1), ("B", 1)])), B), [-9, 4, 4])
+        self.assertEqual(judge(text(locker_words([("A", 1), ("B", 1)], name="M")), B), [-9, 2, 1])
+
+
+class WhatIsHandedIn(unittest.TestCase):
+    cases = ((T, B), (T, B[:-1]), (T[:-1], B), ([], []), (T, []), (T, text(book_words(["B x", "A x"]))),
+             ([0] * 65537, B))
+
+    def test_is_not_changed(self):
+        for t, b in self.cases:
+            t_handed, b_handed = Untouched(t), Untouched(b)
+            judge(t_handed, b_handed)
+            row(0, t_handed, b_handed)
+            row(2, t_handed, b_handed)
+            row(LAST, t_handed, b_handed)
+            self.assertEqual((list(t_handed), list(b_handed)), (t, b))
+
+    def test_one_list_may_be_both(self):
+        self.assertEqual(judge(T, T), [-9, 1, 0])
+        self.assertEqual(judge(B, B), [-6])
+
+
+class WhatIsGivenBack(unittest.TestCase):
+    def test_lists_of_whole_numbers(self):
+        for t, b in WhatIsHandedIn.cases:
+            for answer in (judge(t, b), row(0, t, b), row(LAST, t, b)):
+                self.assertIs(type(answer), list)
+                self.assertEqual({type(number) for number in answer}, {int})
+
+    def test_a_second_call_answers_as_the_first(self):
+        first = [(judge(t, b), row(0, t, b), row(2, t, b)) for t, b in WhatIsHandedIn.cases]
+        again = [(judge(t, b), row(0, t, b), row(2, t, b)) for t, b in reversed(WhatIsHandedIn.cases)]
+        self.assertEqual(first, again[::-1])
+
+    def test_what_was_given_back_is_the_callers(self):
+        for call in (lambda: judge(T, B), lambda: row(2, T, B), lambda: judge(T, []), lambda: row(9, T, B)):
+            before = call()
+            kept = list(before)
+            before.extend([7, 7])
+            before[0] = 99
+            self.assertEqual(call(), kept)
+
+    def test_nothing_is_printed(self):
+        printed = io.StringIO()
+        with contextlib.redirect_stdout(printed), contextlib.redirect_stderr(printed):
+            for t, b in WhatIsHandedIn.cases:
+                judge(t, b)
+                row(0, t, b)
+        self.assertEqual(printed.getvalue(), "")
+
+
+if __name__ == "__main__":
+    unittest.main()
