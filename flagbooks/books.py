@@ -54,10 +54,15 @@ def meaning_told(line):
     return line[len(split_at(BLANK, line)[0]) + 1:]
 
 
+def is_row_length(length):
+    """Whether a row can have so many signs."""
+    return 1 <= length <= LONGEST_ROW
+
+
 def is_entry_line(line):
     """Whether the line is 1 to 8 names, a blank and a meaning."""
     names = names_told(line)
-    return len(names) <= LONGEST_ROW and all([is_name(name) for name in names]) and is_meaning(meaning_told(line))
+    return is_row_length(len(names)) and all([is_name(name) for name in names]) and is_meaning(meaning_told(line))
 
 
 def is_row_behind(row, before):
@@ -112,3 +117,11 @@ def read_book(locker, text):
     if book.fault == [] and count_lines(text) < HEAD_LINES:
         book.fault = [NO_SUCH_LINE, count_lines(text)]
     return book
+
+
+def number_of_row(book, signs):
+    """The number of the book's entry with the row of these signs, None if it has none."""
+    for number, entry in enumerate(book.entries):
+        if entry.row == signs:
+            return number
+    return None

@@ -1,35 +1,50 @@
 """The calls: each takes whole texts and answers one list of numbers, a refusal's below 0 first."""
 
-from flagbooks.books import read_book
-from flagbooks.lockers import read_locker
+from flagbooks.books import is_row_length, number_of_row, read_book
+from flagbooks.lockers import is_sign, read_locker
 
 LONGEST_TEXT = 65536
 
+OUT_OF_FORM = -1
 TOO_LONG = -2
-NO_ENTRY = -4
+# Told of an entry's number and of a sign's.
+NO_SUCH_NUMBER = -4
+NONE_FOUND = -5
 NO_LOCKER = -6
 NO_BOOK = -9
 
 
 class Reading:
-    """What a locker's and a book's text tell: the book, or the refusal ([] if there's none) as judge answers it."""
+    """What a locker's and a book's text tell: both, or the refusal ([] if there's none) as judge answers it."""
 
-    def __init__(self, refusal, book):
+    def __init__(self, refusal, locker, book):
         self.refusal = refusal
+        self.locker = locker
         self.book = book
 
 
 def read_texts(t, b):
-    """The book b for the locker t, or why the texts are refused."""
+    """The locker t and the book b for it, or why the texts are refused."""
     if len(t) > LONGEST_TEXT or len(b) > LONGEST_TEXT:
-        return Reading([TOO_LONG], None)
+        return Reading([TOO_LONG], None, None)
     locker = read_locker(t)
     if locker.fault != []:
-        return Reading([NO_LOCKER], None)
+        return Reading([NO_LOCKER], None, None)
     book = read_book(locker, b)
     if book.fault != []:
-        return Reading([NO_BOOK] + book.fault, None)
-    return Reading([], book)
+        return Reading([NO_BOOK] + book.fault, None, None)
+    return Reading([], locker, book)
+
+
+def told_of_entry(i, t, b, tell):
+    """How many numbers tell gives for the book's entry i, then they."""
+    reading = read_texts(t, b)
+    if reading.refusal != []:
+        return reading.refusal[:1]
+    if i >= len(reading.book.entries):
+        return [NO_SUCH_NUMBER]
+    told = tell(reading.book.entries[i])
+    return [len(told)] + told
 
 
 def judge(t, b):
@@ -42,10 +57,22 @@ def judge(t, b):
 
 def row(i, t, b):
     """How many signs the row of the book's entry i has, then their numbers."""
+    return told_of_entry(i, t, b, lambda entry: entry.row)
+
+
+def says(i, t, b):
+    """How many bytes the meaning of the book's entry i has, then they."""
+    return told_of_entry(i, t, b, lambda entry: entry.meaning)
+
+
+def find(t, b, signs):
+    """The number of the book's entry with the row of these signs."""
     reading = read_texts(t, b)
     if reading.refusal != []:
         return reading.refusal[:1]
-    if i >= len(reading.book.entries):
-        return [NO_ENTRY]
-    signs = reading.book.entries[i].row
-    return [len(signs)] + signs
+    if not is_row_length(len(signs)):
+        return [OUT_OF_FORM]
+    if not all([is_sign(reading.locker, number) for number in signs]):
+        return [NO_SUCH_NUMBER]
+    found = number_of_row(reading.book, signs)
+    return [NONE_FOUND] if found is None else [found]

@@ -158,3 +158,8 @@ def read_locker(text):
     if locker.fault == [] and len(locker.signs) == 0:
         locker.fault = [NO_SUCH_LINE, count_lines(text)]
     return locker
+
+
+def is_sign(locker, number):
+    """Whether the number is that of a kind that's a sign: signs stand ahead of all other kinds."""
+    return number < len(locker.signs)

@@ -145,8 +145,8 @@ class Judged:
         return 0
 
 
-def entry_kind(locker, line, rows):
-    """The kind of an entry's line's fault, 0 if it has none: then its row is put behind the rows."""
+def entry_kind(locker, line, entries):
+    """The kind of an entry's line's fault, 0 if it has none: then its row and meaning are put behind the entries."""
     found = ENTRY_LINE.fullmatch(line)
     if not found or not MEANING.fullmatch(found[2]):
         return 1
@@ -156,11 +156,11 @@ def entry_kind(locker, line, rows):
     row = [locker.names.index(name) for name in names]
     if not can_be_shown(row, locker.copies, len(locker.names), locker.sames):
         return 4
-    if rows and (len(row), row) <= (len(rows[-1]), rows[-1]):
+    if entries and (len(row), row) <= (len(entries[-1][0]), entries[-1][0]):
         return 5
-    if len(rows) == 2048:
+    if len(entries) == 2048:
         return 6
-    rows.append(row)
+    entries.append((row, list(found[2])))
     return 0
 
 
@@ -173,20 +173,32 @@ def head_kind(locker, number, line):
 
 
 def second_judge(t, b):
-    """What judge must answer, and the rows if it's no refusal."""
+    """What judge must answer, and the entries, each its row and its meaning's bytes, if it's no refusal."""
     if len(t) > MOST_BYTES or len(b) > MOST_BYTES:
         return [-2], []
     locker = Judged(bytes(t))
     if locker.fault:
         return [-6], []
-    rows = []
+    entries = []
     lines = line_ends(bytes(b))
     for number, (line, ended) in enumerate(lines):
         kind = 1
         if ended:
-            kind = entry_kind(locker, line, rows) if number > 1 else head_kind(locker, number, line)
+            kind = entry_kind(locker, line, entries) if number > 1 else head_kind(locker, number, line)
         if kind:
             return [-9, kind, number], []
     if len(lines) < 2:
         return [-9, 1, len(lines)], []
-    return [len(rows)], rows
+    return [len(entries)], entries
+
+
+def second_find(t, b, signs):
+    """What find must answer."""
+    answer, entries = second_judge(t, b)
+    if answer[0] < 0:
+        return answer[:1]
+    if not signs or len(signs) > 8:
+        return [-1]
+    if max(signs) >= len(Judged(bytes(t)).names):
+        return [-4]
+    return [number for number, (row, meaning) in enumerate(entries) if row == list(signs)] or [-5]

@@ -1,8 +1,8 @@
-"""How judge and row read a book's text: entries, kinds of fault and their lines."""
+"""How the calls read a book's text: entries, kinds of fault and their lines."""
 
 import unittest
 
-from flagbooks.desk import judge, row
+from flagbooks.desk import find, judge, row, says
 from tests.helper import book_of_size, book_words, locker_words, many_rows, many_signs, text
 
 T = text(locker_words([("A", 2), ("B", 1), ("CC", 8)], [(1, 1)], 1))
@@ -11,9 +11,11 @@ WIDE = text(locker_words(many_signs(48, 2)))
 
 class BookTest(unittest.TestCase):
     def faulty(self, kind, line, words, t=T):
-        """judge tells the fault, row nothing but the refusal."""
+        """judge tells the fault, the others nothing but the refusal."""
         self.assertEqual(judge(t, text(words)), [-9, kind, line], words[:200])
         self.assertEqual(row(0, t, text(words)), [-9], words[:200])
+        self.assertEqual(says(0, t, text(words)), [-9], words[:200])
+        self.assertEqual(find(t, text(words), [0]), [-9], words[:200])
 
     def entry_faulty(self, kind, line):
         """As the first, as the only and as a later entry's line it has this kind of fault."""
@@ -24,9 +26,13 @@ class BookTest(unittest.TestCase):
     def good(self, lines, rows, t=T):
         b = text(book_words(lines))
         self.assertEqual(judge(t, b), [len(rows)])
-        for place, signs in enumerate(rows):
+        for place, (line, signs) in enumerate(zip(lines, rows)):
+            meaning = text(line.split(" ", 1)[1])
             self.assertEqual(row(place, t, b), [len(signs)] + signs)
+            self.assertEqual(says(place, t, b), [len(meaning)] + meaning)
+            self.assertEqual(find(t, b, signs), [place])
         self.assertEqual(row(len(rows), t, b), [-4])
+        self.assertEqual(says(len(rows), t, b), [-4])
 
 
 class GoodBooks(BookTest):

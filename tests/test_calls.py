@@ -4,25 +4,44 @@ import contextlib
 import io
 import unittest
 
-from flagbooks.desk import judge, row
+from flagbooks.desk import find, judge, row, says
 from tests.helper import Untouched, book_of_size, book_words, locker_words, many_signs, text
 
 T = text(locker_words([("A", 1), ("B", 1)], [(1, 1)], 1))
 B = text(book_words(["A go", "B stop", "B.B wait a while"]))
 WIDE = text(locker_words(many_signs(48, 2)))
 LAST = 18446744073709551615
+# Rows for find: in B, not in B, with a number that's no sign's, of no signs, of more than 8.
+ROWS = ([0], [1, 1], [0, 1], [2], [255], [], [0] * 9, [255] * 1000)
+
+
+def all_calls(t, b):
+    """What every call answers on these texts."""
+    answers = [judge(t, b)]
+    for i in (0, 2, LAST):
+        answers.extend([row(i, t, b), says(i, t, b)])
+    for signs in ROWS:
+        answers.append(find(t, b, signs))
+    return answers
 
 
 class Refusals(unittest.TestCase):
     def refused(self, answer, t, b):
+        """judge answers so, the others the number alone, whatever else could be refused."""
         self.assertEqual(judge(t, b), answer)
         for i in (0, 1, LAST):
             self.assertEqual(row(i, t, b), answer[:1])
+            self.assertEqual(says(i, t, b), answer[:1])
+        for signs in ROWS:
+            self.assertEqual(find(t, b, signs), answer[:1])
 
     def test_how_long_a_text_may_be(self):
         longest = text(book_of_size(65536))
         self.assertEqual(judge(WIDE, longest), [1000])
         self.assertEqual(row(0, WIDE, longest), [1, 0])
+        self.assertEqual(says(0, WIDE, longest), [57] + [109] * 57)
+        self.assertEqual(find(WIDE, longest, [19, 39]), [999])
+        self.assertEqual(find(WIDE, longest, [19, 40]), [-5])
         self.refused([-2], WIDE, text(book_of_size(65537)))
         self.refused([-9, 1, 0], T, [120] * 65536)
         self.refused([-9, 1, 0], T, [10] * 65536)
@@ -47,15 +66,18 @@ class Refusals(unittest.TestCase):
             self.refused([-6], text("locker L\n"), b)
 
     def test_the_book_comes_before_the_entry(self):
-        self.assertEqual(row(LAST, T, B[:-1]), [-9])
-        self.assertEqual(row(3, T, B + text("A x\n")), [-9])
+        self.refused([-9, 1, 4], T, B[:-1])
+        self.refused([-9, 5, 5], T, B + text("A x\n"))
 
     def test_no_such_entry(self):
         self.assertEqual(row(2, T, B), [2, 1, 1])
+        self.assertEqual(says(2, T, B), [12] + text("wait a while"))
         for i in (3, 4, 255, 2047, 2048, 2 ** 32, 2 ** 63, LAST):
             self.assertEqual(row(i, T, B), [-4])
+            self.assertEqual(says(i, T, B), [-4])
         for i in (0, 1, LAST):
             self.assertEqual(row(i, T, text(book_words([]))), [-4])
+            self.assertEqual(says(i, T, text(book_words([]))), [-4])
 
     def test_a_book_is_for_its_locker(self):
         other = text(locker_words([("B", 1), ("A", 1)], [(1, 1)], 1))
@@ -73,31 +95,37 @@ class WhatIsHandedIn(unittest.TestCase):
     def test_is_not_changed(self):
         for t, b in self.cases:
             t_handed, b_handed = Untouched(t), Untouched(b)
-            judge(t_handed, b_handed)
-            row(0, t_handed, b_handed)
-            row(2, t_handed, b_handed)
-            row(LAST, t_handed, b_handed)
+            all_calls(t_handed, b_handed)
+            for signs in ROWS:
+                signs_handed = Untouched(signs)
+                find(t_handed, b_handed, signs_handed)
+                self.assertEqual(list(signs_handed), signs)
             self.assertEqual((list(t_handed), list(b_handed)), (t, b))
 
     def test_one_list_may_be_both(self):
         self.assertEqual(judge(T, T), [-9, 1, 0])
         self.assertEqual(judge(B, B), [-6])
+        self.assertEqual(says(0, T, T), [-9])
+        self.assertEqual(find(T, T, T), [-9])
+        self.assertEqual(find(T, B, B), [-1])
 
 
 class WhatIsGivenBack(unittest.TestCase):
     def test_lists_of_whole_numbers(self):
         for t, b in WhatIsHandedIn.cases:
-            for answer in (judge(t, b), row(0, t, b), row(LAST, t, b)):
+            for answer in all_calls(t, b):
                 self.assertIs(type(answer), list)
                 self.assertEqual({type(number) for number in answer}, {int})
 
     def test_a_second_call_answers_as_the_first(self):
-        first = [(judge(t, b), row(0, t, b), row(2, t, b)) for t, b in WhatIsHandedIn.cases]
-        again = [(judge(t, b), row(0, t, b), row(2, t, b)) for t, b in reversed(WhatIsHandedIn.cases)]
+        first = [all_calls(t, b) for t, b in WhatIsHandedIn.cases]
+        again = [all_calls(t, b) for t, b in reversed(WhatIsHandedIn.cases)]
         self.assertEqual(first, again[::-1])
 
     def test_what_was_given_back_is_the_callers(self):
-        for call in (lambda: judge(T, B), lambda: row(2, T, B), lambda: judge(T, []), lambda: row(9, T, B)):
+        for call in (lambda: judge(T, B), lambda: row(2, T, B), lambda: judge(T, []), lambda: row(9, T, B),
+                     lambda: says(2, T, B), lambda: says(9, T, B), lambda: find(T, B, [1]), lambda: find(T, B, []),
+                     lambda: find(T, B, [2]), lambda: find(T, B, [0, 0])):
             before = call()
             kept = list(before)
             before.extend([7, 7])
@@ -108,8 +136,7 @@ class WhatIsGivenBack(unittest.TestCase):
         printed = io.StringIO()
         with contextlib.redirect_stdout(printed), contextlib.redirect_stderr(printed):
             for t, b in WhatIsHandedIn.cases:
-                judge(t, b)
-                row(0, t, b)
+                all_calls(t, b)
         self.assertEqual(printed.getvalue(), "")
 
 
