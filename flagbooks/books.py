@@ -1,8 +1,8 @@
-"""Books: what rows of signs say, read from a book's text."""
+"""Books: what rows of signs say, read from a book's text and written as one."""
 
 from flagbooks.hoists import can_show
-from flagbooks.lines import BLANK, NO_SUCH_LINE
-from flagbooks.lines import count_lines, first_fault, is_name, is_naming_line, named, split_at
+from flagbooks.lines import BLANK, LINE_END, NO_SUCH_LINE
+from flagbooks.lines import count_lines, first_fault, is_name, is_naming_line, named, naming_line, split_at
 
 FULL_STOP = 46
 LAST_PRINTED = 126
@@ -44,14 +44,14 @@ def is_meaning(told):
     return [] not in split_at(BLANK, told)
 
 
-def names_told(line):
-    """The names of the row that stands ahead of the line's first blank, as far as they are names."""
-    return split_at(FULL_STOP, split_at(BLANK, line)[0])
+def row_word(line):
+    """What stands ahead of the line's first blank: the word of the row in an entry's line."""
+    return split_at(BLANK, line)[0]
 
 
 def meaning_told(line):
     """What stands behind the line's first blank."""
-    return line[len(split_at(BLANK, line)[0]) + 1:]
+    return line[len(row_word(line)) + 1:]
 
 
 def is_row_length(length):
@@ -59,17 +59,30 @@ def is_row_length(length):
     return 1 <= length <= LONGEST_ROW
 
 
+def is_row_word(word):
+    """Whether the word is 1 to 8 names with a full stop between two."""
+    names = split_at(FULL_STOP, word)
+    return is_row_length(len(names)) and all([is_name(name) for name in names])
+
+
 def is_entry_line(line):
     """Whether the line is 1 to 8 names, a blank and a meaning."""
-    names = names_told(line)
-    return is_row_length(len(names)) and all([is_name(name) for name in names]) and is_meaning(meaning_told(line))
+    return is_row_word(row_word(line)) and is_meaning(meaning_told(line))
+
+
+def signs_told(locker, word):
+    """The numbers of the signs that a row's word names, None in the place of a name that's no sign's."""
+    return [locker.signs.get(tuple(name)) for name in split_at(FULL_STOP, word)]
+
+
+def place_in_order(row):
+    """What is compared of rows in the order of rows."""
+    return (len(row), row)
 
 
 def is_row_behind(row, before):
     """Whether the row comes behind the one before, in the order of rows."""
-    if len(row) != len(before):
-        return len(row) > len(before)
-    return row > before
+    return place_in_order(row) > place_in_order(before)
 
 
 def row_fault(locker, book, row):
@@ -87,10 +100,9 @@ def take_entry(locker, book, line):
     """Add the entry of a line to the book; answers the kind of the line's fault, 0 if it has none."""
     if not is_entry_line(line):
         return NO_SUCH_LINE
-    names = [tuple(name) for name in names_told(line)]
-    if not all([name in locker.signs for name in names]):
+    row = signs_told(locker, row_word(line))
+    if None in row:
         return NO_SIGN
-    row = [locker.signs[name] for name in names]
     fault = row_fault(locker, book, row)
     if fault == 0:
         book.entries.append(Entry(row, meaning_told(line)))
@@ -119,9 +131,27 @@ def read_book(locker, text):
     return book
 
 
-def number_of_row(book, signs):
-    """The number of the book's entry with the row of these signs, None if it has none."""
+def number_of_first(book, is_wanted):
+    """The number of the book's first entry that is_wanted holds of, None if there's none."""
     for number, entry in enumerate(book.entries):
-        if entry.row == signs:
+        if is_wanted(entry):
             return number
     return None
+
+
+def entry_line(locker, entry):
+    """The line that tells an entry, with its end."""
+    line = []
+    for sign in entry.row:
+        line.extend(locker.kinds[sign].label)
+        line.append(FULL_STOP)
+    line[-1] = BLANK
+    return line + entry.meaning + [LINE_END]
+
+
+def text_of_book(locker, book):
+    """The text that tells a book for this locker."""
+    text = naming_line("book", book.name) + naming_line("for", locker.name)
+    for entry in book.entries:
+        text.extend(entry_line(locker, entry))
+    return text

@@ -1,6 +1,7 @@
 """The calls: each takes whole texts and answers one list of numbers, a refusal's below 0 first."""
 
-from flagbooks.books import is_row_length, number_of_row, read_book
+from flagbooks.amendments import amended
+from flagbooks.books import is_meaning, is_row_length, number_of_first, read_book, text_of_book
 from flagbooks.lockers import is_sign, read_locker
 
 LONGEST_TEXT = 65536
@@ -36,6 +37,16 @@ def read_texts(t, b):
     return Reading([], locker, book)
 
 
+def told_with_count(told):
+    """How many numbers are told, then they."""
+    return [len(told)] + told
+
+
+def number_or_refusal(found):
+    """The number of the entry that's found, or the refusal if None is."""
+    return [NONE_FOUND] if found is None else [found]
+
+
 def told_of_entry(i, t, b, tell):
     """How many numbers tell gives for the book's entry i, then they."""
     reading = read_texts(t, b)
@@ -43,8 +54,7 @@ def told_of_entry(i, t, b, tell):
         return reading.refusal[:1]
     if i >= len(reading.book.entries):
         return [NO_SUCH_NUMBER]
-    told = tell(reading.book.entries[i])
-    return [len(told)] + told
+    return told_with_count(tell(reading.book.entries[i]))
 
 
 def judge(t, b):
@@ -74,5 +84,29 @@ def find(t, b, signs):
         return [OUT_OF_FORM]
     if not all([is_sign(reading.locker, number) for number in signs]):
         return [NO_SUCH_NUMBER]
-    found = number_of_row(reading.book, signs)
-    return [NONE_FOUND] if found is None else [found]
+    return number_or_refusal(number_of_first(reading.book, lambda entry: entry.row == signs))
+
+
+def means(t, b, m):
+    """The number of the book's first entry with the meaning m."""
+    reading = read_texts(t, b)
+    if reading.refusal != []:
+        return reading.refusal[:1]
+    if not is_meaning(m):
+        return [OUT_OF_FORM]
+    return number_or_refusal(number_of_first(reading.book, lambda entry: entry.meaning == m))
+
+
+def amend(t, b, c):
+    """How many bytes the text of the book b amended by c has, then they; -9 with the amendment's fault or 0 0."""
+    if len(c) > LONGEST_TEXT:
+        return [TOO_LONG]
+    reading = read_texts(t, b)
+    if reading.refusal[:1] == [NO_BOOK]:
+        return [NO_BOOK, 0, 0]
+    if reading.refusal != []:
+        return reading.refusal
+    made = amended(reading.locker, reading.book, c)
+    if made.fault != []:
+        return [NO_BOOK] + made.fault
+    return told_with_count(text_of_book(reading.locker, made))

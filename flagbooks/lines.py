@@ -1,4 +1,4 @@
-"""Lines, words and names: what the texts of lockers and of books are made of, as lists of bytes."""
+"""Lines, words and names: what the texts of lockers, books and amendments are made of, as lists of bytes."""
 
 LINE_END = 10
 BLANK = 32
@@ -44,6 +44,11 @@ def is_naming_line(line, first):
 def named(line):
     """The name that a naming line tells."""
     return split_at(BLANK, line)[1]
+
+
+def naming_line(first, name):
+    """The line of this first word, a blank and a name, with its end."""
+    return letters(first) + [BLANK] + name + [LINE_END]
 
 
 def first_fault(text, take):

@@ -36,6 +36,11 @@ def book_words(lines, name="X", locker="L"):
     return "".join(line + "\n" for line in [f"book {name}", f"for {locker}"] + list(lines))
 
 
+def amend_words(lines, name="X"):
+    """An amendment's text with these lines behind line 0."""
+    return "".join(line + "\n" for line in [f"amend {name}"] + list(lines))
+
+
 def many_signs(count, copies):
     """So many signs, S00 and on, of so many copies each."""
     return [(f"S{number:02}", copies) for number in range(count)]
@@ -49,10 +54,13 @@ def many_rows(count):
 
 def book_of_size(size):
     """A book of 1,000 entries whose text has just so many bytes (about 65,000)."""
-    rows = many_rows(1000)
-    spare = size - len(book_words(f"{row} " for row in rows))
-    each, more = divmod(spare, len(rows))
-    return book_words(row + " " + "m" * (each + (place < more)) for place, row in enumerate(rows))
+    return book_words(lines_of_size(many_rows(1000), size - len(book_words([]))))
+
+
+def lines_of_size(starts, size):
+    """Lines that begin so, each with a blank and a meaning behind, that have with their ends just so many bytes."""
+    each, more = divmod(size - sum(len(start) + 2 for start in starts), len(starts))
+    return [start + " " + "m" * (each + (place < more)) for place, start in enumerate(starts)]
 
 
 class Untouched(list):
@@ -63,6 +71,14 @@ class Untouched(list):
 
     append = clear = extend = insert = pop = remove = reverse = sort = refuse
     __setitem__ = __delitem__ = __iadd__ = __imul__ = refuse
+
+
+def differ_at(first, second):
+    """The first place where two long lists differ, None if they don't: unittest takes very long to tell how they do."""
+    if first == second:
+        return None
+    return next((place for place, pair in enumerate(zip(first, second)) if pair[0] != pair[1]),
+                min(len(first), len(second)))
 
 
 def hoist_meaning(hoist, signs, sames):
@@ -202,3 +218,67 @@ def second_find(t, b, signs):
     if max(signs) >= len(Judged(bytes(t)).names):
         return [-4]
     return [number for number, (row, meaning) in enumerate(entries) if row == list(signs)] or [-5]
+
+
+def second_means(t, b, m):
+    """What means must answer."""
+    answer, entries = second_judge(t, b)
+    if answer[0] < 0:
+        return answer[:1]
+    if not MEANING.fullmatch(bytes(m)):
+        return [-1]
+    return [number for number, (row, meaning) in enumerate(entries) if meaning == list(m)][:1] or [-5]
+
+
+CHANGE_LINE = re.compile(rb"([-+=]) ((?:[A-Z0-9]{1,8}\.){0,7}[A-Z0-9]{1,8})(?: (.*))?", re.DOTALL)
+
+
+def change_kind(locker, line, book, rows, made):
+    """The kind of a change's line's fault, 0 if it has none: then it's done on the book made, its row put to rows."""
+    found = CHANGE_LINE.fullmatch(line)
+    if not found or (found[3] is None) != (found[1] == b"-"):
+        return 1
+    if found[1] != b"-" and not MEANING.fullmatch(found[3]):
+        return 1
+    names = found[2].split(b".")
+    if set(names) - set(locker.names):
+        return 3
+    row = tuple(locker.names.index(name) for name in names)
+    if found[1] == b"+" and not can_be_shown(list(row), locker.copies, len(locker.names), locker.sames):
+        return 4
+    if rows and (len(row), row) <= (len(rows[-1]), rows[-1]):
+        return 5
+    if (row in book) == (found[1] == b"+") or (found[1] == b"=" and book[row] == found[3]):
+        return 6
+    rows.append(row)
+    made[row] = found[3]
+    return 0
+
+
+def second_amend(t, b, c):
+    """What amend must answer."""
+    answer, entries = second_judge(t, b)
+    if len(c) > MOST_BYTES or answer[0] in (-2, -6):
+        return [-2] if len(c) > MOST_BYTES else answer
+    if answer[0] == -9:
+        return [-9, 0, 0]
+    locker = Judged(bytes(t))
+    name = bytes(b).split()[1]
+    book = {tuple(row): bytes(meaning) for row, meaning in entries}
+    made, rows = dict(book), []
+    lines = line_ends(bytes(c)) or [(b"", False)]
+    for number, (line, ended) in enumerate(lines):
+        kind = 0 if ended else 1
+        if ended and number == 0 and line != b"amend " + name:
+            kind = 2 if re.fullmatch(rb"amend [A-Z0-9]{1,8}", line) else 1
+        if ended and number > 0:
+            kind = change_kind(locker, line, book, rows, made)
+        if kind:
+            return [-9, kind, number]
+    left = sorted((len(row), row) for row in made if made[row] is not None)
+    if len(left) > 2048:
+        return [-9, 7, len(lines)]
+    told = b"book %s\nfor %s\n" % (name, locker.name)
+    for length, row in left:
+        told += b".".join(locker.names[sign] for sign in row) + b" " + made[row] + b"\n"
+    return [len(told)] + list(told)

@@ -4,8 +4,9 @@ import contextlib
 import io
 import unittest
 
-from flagbooks.desk import find, judge, row, says
-from tests.helper import Untouched, book_of_size, book_words, locker_words, many_signs, text
+from flagbooks.desk import amend, find, judge, means, row, says
+from tests.helper import Untouched, amend_words, book_words, locker_words, text
+from tests.helper import book_of_size, differ_at, many_signs
 
 T = text(locker_words([("A", 1), ("B", 1)], [(1, 1)], 1))
 B = text(book_words(["A go", "B stop", "B.B wait a while"]))
@@ -13,6 +14,12 @@ WIDE = text(locker_words(many_signs(48, 2)))
 LAST = 18446744073709551615
 # Rows for find: in B, not in B, with a number that's no sign's, of no signs, of more than 8.
 ROWS = ([0], [1, 1], [0, 1], [2], [255], [], [0] * 9, [255] * 1000)
+# Meanings for means: in B, not in B, and what's no meaning.
+MEANINGS = (text("go"), text("wait a while"), text("wait"), [109] * 64, [109] * 65, [], text(" go"), [255] * 1000)
+# Amendments for amend: on B, on none, and what's no amendment.
+AMENDMENTS = (text(amend_words([])), text(amend_words(["- A", "= B go", "+ A.B x", "- B.B"])),
+              text(amend_words(["+ A x"])), text(amend_words(["+ A.A.A x"])), text(amend_words([], "Y")), [],
+              [0] * 65536)
 
 
 def all_calls(t, b):
@@ -22,18 +29,27 @@ def all_calls(t, b):
         answers.extend([row(i, t, b), says(i, t, b)])
     for signs in ROWS:
         answers.append(find(t, b, signs))
+    for m in MEANINGS:
+        answers.append(means(t, b, m))
+    for c in AMENDMENTS + ([0] * 65537,):
+        answers.append(amend(t, b, c))
     return answers
 
 
 class Refusals(unittest.TestCase):
     def refused(self, answer, t, b):
-        """judge answers so, the others the number alone, whatever else could be refused."""
+        """judge answers so, the others the number alone or amend with 0 0, whatever else could be refused."""
         self.assertEqual(judge(t, b), answer)
         for i in (0, 1, LAST):
             self.assertEqual(row(i, t, b), answer[:1])
             self.assertEqual(says(i, t, b), answer[:1])
         for signs in ROWS:
             self.assertEqual(find(t, b, signs), answer[:1])
+        for m in MEANINGS:
+            self.assertEqual(means(t, b, m), answer[:1])
+        for c in AMENDMENTS:
+            self.assertEqual(amend(t, b, c), [-9, 0, 0] if answer[0] == -9 else answer)
+        self.assertEqual(amend(t, b, [0] * 65537), [-2])
 
     def test_how_long_a_text_may_be(self):
         longest = text(book_of_size(65536))
@@ -42,6 +58,8 @@ class Refusals(unittest.TestCase):
         self.assertEqual(says(0, WIDE, longest), [57] + [109] * 57)
         self.assertEqual(find(WIDE, longest, [19, 39]), [999])
         self.assertEqual(find(WIDE, longest, [19, 40]), [-5])
+        self.assertEqual(means(WIDE, longest, [109] * 57), [0])
+        self.assertIsNone(differ_at(amend(WIDE, longest, text("amend X\n")), [65536] + longest))
         self.refused([-2], WIDE, text(book_of_size(65537)))
         self.refused([-9, 1, 0], T, [120] * 65536)
         self.refused([-9, 1, 0], T, [10] * 65536)
@@ -100,6 +118,14 @@ class WhatIsHandedIn(unittest.TestCase):
                 signs_handed = Untouched(signs)
                 find(t_handed, b_handed, signs_handed)
                 self.assertEqual(list(signs_handed), signs)
+            for m in MEANINGS:
+                m_handed = Untouched(m)
+                means(t_handed, b_handed, m_handed)
+                self.assertEqual(list(m_handed), m)
+            for c in AMENDMENTS:
+                c_handed = Untouched(c)
+                amend(t_handed, b_handed, c_handed)
+                self.assertEqual(list(c_handed), c)
             self.assertEqual((list(t_handed), list(b_handed)), (t, b))
 
     def test_one_list_may_be_both(self):
@@ -108,6 +134,9 @@ class WhatIsHandedIn(unittest.TestCase):
         self.assertEqual(says(0, T, T), [-9])
         self.assertEqual(find(T, T, T), [-9])
         self.assertEqual(find(T, B, B), [-1])
+        self.assertEqual(means(T, B, B), [-1])
+        self.assertEqual(amend(T, B, B), [-9, 1, 0])
+        self.assertEqual(amend(T, T, T), [-9, 0, 0])
 
 
 class WhatIsGivenBack(unittest.TestCase):
@@ -125,7 +154,9 @@ class WhatIsGivenBack(unittest.TestCase):
     def test_what_was_given_back_is_the_callers(self):
         for call in (lambda: judge(T, B), lambda: row(2, T, B), lambda: judge(T, []), lambda: row(9, T, B),
                      lambda: says(2, T, B), lambda: says(9, T, B), lambda: find(T, B, [1]), lambda: find(T, B, []),
-                     lambda: find(T, B, [2]), lambda: find(T, B, [0, 0])):
+                     lambda: find(T, B, [2]), lambda: find(T, B, [0, 0]), lambda: means(T, B, text("go")),
+                     lambda: means(T, B, []), lambda: means(T, B, text("x")), lambda: amend(T, [], []),
+                     lambda: amend(T, B, AMENDMENTS[0]), lambda: amend(T, B, AMENDMENTS[1]), lambda: amend(T, B, [])):
             before = call()
             kept = list(before)
             before.extend([7, 7])

@@ -96,6 +96,17 @@ class Form(unittest.TestCase):
             if isinstance(node, ast.Attribute) and isinstance(node.ctx, ast.Store):
                 self.assertNotIn(node.attr, TAKEN_VALUES - FREE_VALUES, where)
 
+    def test_locals_are_not_called_like_classes_or_imports(self):
+        for path in FILES:
+            tree = ast.parse(path.read_text())
+            taken = {node.name for node in tree.body if isinstance(node, ast.ClassDef)}
+            taken |= {alias.name for node in tree.body if isinstance(node, ast.ImportFrom) for alias in node.names}
+            for node in ast.walk(tree):
+                if isinstance(node, ast.arg):
+                    self.assertNotIn(node.arg, taken, path.name)
+                if isinstance(node, ast.Name) and isinstance(node.ctx, ast.Store):
+                    self.assertNotIn(node.id, taken, path.name)
+
     def test_imports(self):
         drawn = {path.stem: set() for path in FILES}
         for where, node in self.walk():
