@@ -1,12 +1,12 @@
-"""Amendments: what makes one edition of a book out of another, read from an amendment's text."""
+"""Amendments: what makes one edition of a book out of another, read from an amendment's text and written as one."""
 
 from flagbooks.books import MOST_ENTRIES, NO_SIGN, NOT_BEHIND, NOT_SHOWN
 from flagbooks.books import Book, Entry
 from flagbooks.books import is_entry_line, is_row_behind, is_row_word, place_in_order
-from flagbooks.books import meaning_told, row_word, signs_told
+from flagbooks.books import meaning_told, row_word, signs_told, word_of_row
 from flagbooks.hoists import can_show
-from flagbooks.lines import BLANK, NO_SUCH_LINE
-from flagbooks.lines import count_lines, first_fault, is_naming_line, named
+from flagbooks.lines import BLANK, LINE_END, NO_SUCH_LINE
+from flagbooks.lines import count_lines, first_fault, is_naming_line, named, naming_line
 
 # The bytes + - = that a change's line begins with.
 NEW = 43
@@ -132,3 +132,41 @@ def amended(locker, book, text):
     if made.fault == [] and len(made.entries) > MOST_ENTRIES:
         made.fault = [TOO_MANY_LEFT, count_lines(text)]
     return made
+
+
+def mark_between(was, now):
+    """The mark of the change of a row that means one thing and then another, [] where it isn't in the book."""
+    if was == []:
+        return NEW
+    return DROPPED if now == [] else SAYS_ELSE
+
+
+def changes_between(book, later):
+    """The changes, in order, that make the later book of the book."""
+    before = meanings_by_row(book)
+    after = meanings_by_row(later)
+    rows = dict(before)
+    rows.update(after)
+    changes = []
+    for row in sorted(rows, key=place_in_order):
+        was = before.get(row, [])
+        now = after.get(row, [])
+        if was != now:
+            changes.append(Change(mark_between(was, now), list(row), now))
+    return changes
+
+
+def change_line(locker, change):
+    """The line that tells a change, with its end."""
+    line = [change.mark, BLANK] + word_of_row(locker, change.row)
+    if change.mark != DROPPED:
+        line.append(BLANK)
+    return line + change.meaning + [LINE_END]
+
+
+def text_between(locker, book, later):
+    """The text of the amendment that makes the later book, of the same name, of the book."""
+    text = naming_line("amend", book.name)
+    for change in changes_between(book, later):
+        text.extend(change_line(locker, change))
+    return text

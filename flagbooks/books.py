@@ -139,14 +139,19 @@ def number_of_first(book, is_wanted):
     return None
 
 
+def word_of_row(locker, row):
+    """The word that tells a row."""
+    word = []
+    for sign in row:
+        if word != []:
+            word.append(FULL_STOP)
+        word.extend(locker.kinds[sign].label)
+    return word
+
+
 def entry_line(locker, entry):
     """The line that tells an entry, with its end."""
-    line = []
-    for sign in entry.row:
-        line.extend(locker.kinds[sign].label)
-        line.append(FULL_STOP)
-    line[-1] = BLANK
-    return line + entry.meaning + [LINE_END]
+    return word_of_row(locker, entry.row) + [BLANK] + entry.meaning + [LINE_END]
 
 
 def text_of_book(locker, book):

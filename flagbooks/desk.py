@@ -1,13 +1,15 @@
 """The calls: each takes whole texts and answers one list of numbers, a refusal's below 0 first."""
 
-from flagbooks.amendments import amended
+from flagbooks.amendments import amended, text_between
 from flagbooks.books import is_meaning, is_row_length, number_of_first, read_book, text_of_book
 from flagbooks.lockers import is_sign, read_locker
+from flagbooks.views import is_side, pairs_alike
 
 LONGEST_TEXT = 65536
 
 OUT_OF_FORM = -1
 TOO_LONG = -2
+OTHER_NAMES = -3
 # Told of an entry's number and of a sign's.
 NO_SUCH_NUMBER = -4
 NONE_FOUND = -5
@@ -110,3 +112,29 @@ def amend(t, b, c):
     if made.fault != []:
         return [NO_BOOK] + made.fault
     return told_with_count(text_of_book(reading.locker, made))
+
+
+def between(t, b, c):
+    """How many bytes the text of the amendment has that makes the book c of the book b, then they."""
+    if len(c) > LONGEST_TEXT:
+        return [TOO_LONG]
+    reading = read_texts(t, b)
+    if reading.refusal != []:
+        return reading.refusal[:1]
+    later = read_book(reading.locker, c)
+    if later.fault != []:
+        return [NO_BOOK]
+    if later.name != reading.book.name:
+        return [OTHER_NAMES]
+    return told_with_count(text_between(reading.locker, reading.book, later))
+
+
+def doubts(light, side, t, b):
+    """How many pairs of the book's entries can be taken for one another in this light from this side, then they."""
+    reading = read_texts(t, b)
+    if reading.refusal != []:
+        return reading.refusal[:1]
+    if not is_side(side):
+        return [OUT_OF_FORM]
+    pairs = pairs_alike(reading.locker, reading.book, light, side)
+    return [len(pairs) // 2] + pairs

@@ -2,6 +2,7 @@
 
 from flagbooks.lines import BLANK, NO_SUCH_LINE
 from flagbooks.lines import count_lines, first_fault, is_name, is_naming_line, letters, named, split_at
+from flagbooks.looks import DIGITS, number_of
 
 # In the order in which their lines stand in a text.
 SIGN = 1
@@ -11,7 +12,6 @@ ANSWER = 3
 MOST_SIGNS = 48
 MOST_COPIES = 8
 HIGHEST_SAME = 4
-CELLS = 16
 SHAPES = ("square", "tails", "long")
 COLOURS = "0123456789abcdef"
 
@@ -63,13 +63,10 @@ def shape_told(word):
 
 def look_told(word):
     """The look, as a number, that a word tells; -1 if it tells none."""
-    digits = letters(COLOURS)
-    if len(word) != CELLS or not all([byte in digits for byte in word]):
+    colours = letters(COLOURS)
+    if len(word) != DIGITS or not all([byte in colours for byte in word]):
         return -1
-    look = 0
-    for byte in reversed(word):
-        look = look * 16 + digits.index(byte)
-    return look
+    return number_of([colours.index(byte) for byte in word])
 
 
 def kind_with(rank, label, words):

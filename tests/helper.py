@@ -1,9 +1,11 @@
-"""What the tests share: texts built from plain values, and the document's rules written a second time.
+"""What the tests share: texts built from plain values or by chance, and the document's rules written a second time.
 
 The second writing goes by regular expressions and by trying every hoist, so that it has little in common
 with the way the package goes.
 """
 
+import functools
+import itertools
 import re
 
 MOST_BYTES = 65536
@@ -282,3 +284,208 @@ def second_amend(t, b, c):
     for length, row in left:
         told += b".".join(locker.names[sign] for sign in row) + b" " + made[row] + b"\n"
     return [len(told)] + list(told)
+
+
+def second_between(t, b, c):
+    """What between must answer."""
+    if len(c) > MOST_BYTES:
+        return [-2]
+    answer, entries = second_judge(t, b)
+    if answer[0] < 0:
+        return answer[:1]
+    later_answer, later_entries = second_judge(t, c)
+    if later_answer[0] < 0:
+        return [-9]
+    name, later_name = bytes(b).split()[1], bytes(c).split()[1]
+    if name != later_name:
+        return [-3]
+    names = Judged(bytes(t)).names
+    before = {tuple(row): bytes(meaning) for row, meaning in entries}
+    after = {tuple(row): bytes(meaning) for row, meaning in later_entries}
+    lines = [(row, b"-", b"") for row in set(before) - set(after)]
+    lines += [(row, b"+", b" " + after[row]) for row in set(after) - set(before)]
+    lines += [(row, b"=", b" " + after[row]) for row in set(after) & set(before) if after[row] != before[row]]
+    told = b"amend " + name + b"\n"
+    for row, mark, meaning in sorted(lines, key=lambda line: (len(line[0]), line[0])):
+        told += mark + b" " + b".".join(names[sign] for sign in row) + meaning + b"\n"
+    return [len(told)] + list(told)
+
+
+def hoists_that_show(row, copies, signs, sames):
+    """Every hoist that can show the row."""
+    hoists = [[]]
+    for place in range(len(row)):
+        longer = [hoist + [kind] for hoist in hoists for kind in range(len(copies))]
+        longer = [hoist for hoist in longer if hoist_meaning(hoist, signs, sames) == list(row[:place + 1])]
+        hoists = [hoist for hoist in longer if hoist.count(hoist[-1]) <= copies[hoist[-1]]]
+    return hoists
+
+
+def second_hoist(row, copies, signs, sames):
+    """The hoist told for a row, out of all that can show it; None if there's none."""
+    hoists = hoists_that_show(row, copies, signs, sames)
+    return min(hoists, key=lambda hoist: (sum(kind >= signs for kind in hoist), hoist), default=None)
+
+
+def flag_seen(locker, kind, light, side):
+    """The shape and the look of a flag in a light, from the front (0) or from behind (1)."""
+    shape, look = locker.looks[kind]
+    classes = [(light >> 4 * int(cell, 16)) & 15 for cell in look.decode()]
+    if side == 1:
+        classes = [classes[4 * y + 3 - x] for y in range(4) for x in range(4)]
+    return shape, classes
+
+
+def seen_alike(locker, light, side, first, second):
+    """Whether two hoists can be taken for one another."""
+    sides = (0, 1) if side == 2 else (side,)
+    return len(first) == len(second) and any(
+        [flag_seen(locker, kind, light, one) for kind in first]
+        == [flag_seen(locker, kind, light, other) for kind in second]
+        for one in sides for other in sides)
+
+
+def second_doubts(light, side, t, b):
+    """What doubts must answer: every two entries are held against one another."""
+    answer, entries = second_judge(t, b)
+    if answer[0] < 0:
+        return answer[:1]
+    if side > 2:
+        return [-1]
+    locker = Judged(bytes(t))
+    hoists = [second_hoist(row, locker.copies, len(locker.names), locker.sames) for row, meaning in entries]
+    pairs = [(i, j) for i in range(len(hoists)) for j in range(i + 1, len(hoists))
+             if seen_alike(locker, light, side, hoists[i], hoists[j])]
+    return [len(pairs)] + [number for pair in pairs for number in pair]
+
+
+LOCKERS = (
+    locker_words([("A", 1)]),
+    locker_words([("A", 1), ("B", 2), ("C3", 1)], [(1, 1), (2, 2)], 1),
+    locker_words([("B", 1), ("A", 3)], [(2, 1), (3, 1), (4, 8)]),
+    locker_words([("Q", 2), ("A", 1), ("B", 1), ("C3", 1)], (), 3),
+)
+BOOKS = (
+    book_words([]),
+    book_words(["A go"]),
+    book_words(["A go", "A.A stop at once"]),
+    book_words(["A one", "B two", "A.B go alongside", "B.A.B 100% sure", "A.B.B.A.B.B six"]),
+    book_words(["B two", "A one", "B.A x", "B.A.A.A y", "A.B.B.A.A.A.B.B eight of them"]),
+    book_words(["Q q", "C3 c", "Q.Q q q", "Q.A.B.C3.Q all there is"]),
+)
+MEANINGS = ("go", "stop", "x", "go alongside", "one", "+ A x", "100% sure", "m" * 64)
+PIECES = ("\n", " ", ".", "A", "B", "C3", "Q", "x", "1", "9", "0", "same", "sign", "A x\n", "A.B y\n", "\r", "\xff",
+          "~")
+
+
+def spoilt(words, chance):
+    """The text with one to three small changes."""
+    for change in range(chance.randint(1, 3)):
+        place = chance.randint(0, len(words))
+        reach = chance.choice((0, 0, 1, 1, 2, 5, 12))
+        piece = chance.choice(PIECES + ("", "", words[place:place + reach] * 2))
+        words = words[:place] + piece + words[place + reach:]
+    return words
+
+
+def lines_moved(words, chance):
+    """The text with a line elsewhere, twice or gone."""
+    lines = words.splitlines(keepends=True)
+    line = lines[chance.randrange(len(lines))]
+    if chance.random() < 0.7:
+        lines.remove(line)
+    if chance.random() < 0.7:
+        lines.insert(chance.randint(0, len(lines)), line)
+    return "".join(lines)
+
+
+@functools.lru_cache(maxsize=None)
+def rows_shown(t, most=4):
+    """Rows of up to so many signs that a hoist alone can show out of the locker, in the order of rows."""
+    locker = Judged(bytes(text(t)))
+    count = len(locker.names)
+    rows = [signs for length in range(1, most + 1) for signs in itertools.product(range(count), repeat=length)]
+    return tuple(signs for signs in rows if can_be_shown(list(signs), locker.copies, count, locker.sames))
+
+
+def written(t, signs):
+    """A row's word."""
+    names = [line.split()[1] for line in t.splitlines() if line.startswith("sign")]
+    return ".".join(names[sign] for sign in signs)
+
+
+def random_book(t, rows, chance, most=8):
+    """Meanings by their rows, a few of these rows, and the text of the book that has them."""
+    chosen = sorted(chance.sample(rows, chance.randint(0, min(most, len(rows)))), key=rows.index)
+    meanings = {signs: chance.choice(MEANINGS) for signs in chosen}
+    return meanings, book_words(f"{written(t, signs)} {meanings[signs]}" for signs in chosen)
+
+
+def random_changes(t, rows, meanings, chance):
+    """Lines of an amendment on a book with these meanings, and the meanings by their rows that it makes."""
+    made, lines = {}, []
+    for signs in rows:
+        meaning = chance.choice(MEANINGS)
+        word = written(t, signs)
+        if signs not in meanings and chance.random() < 0.2:
+            made[signs] = meaning
+            lines.append(f"+ {word} {meaning}")
+        elif signs in meanings and chance.random() < 0.3:
+            lines.append(f"- {word}")
+        elif signs in meanings and chance.random() < 0.4 and meaning != meanings[signs]:
+            made[signs] = meaning
+            lines.append(f"= {word} {meaning}")
+        elif signs in meanings:
+            made[signs] = meanings[signs]
+    return lines, made
+
+
+def with_a_line(t, lines, meanings, chance):
+    """The lines of an amendment with another whose row and mark come by chance, mostly where its row must stand."""
+    names = [line.split()[1] for line in t.splitlines() if line.startswith("sign")]
+    signs = tuple(chance.randrange(len(names)) for place in range(chance.randint(1, 5)))
+    if meanings and chance.random() < 0.5:
+        signs = chance.choice(list(meanings))
+    meaning = chance.choice((meanings.get(signs, "x"), "x"))
+    mark = chance.choice("+-=")
+    added = f"{mark} {written(t, signs)}" + (f" {meaning}" if mark != "-" else "")
+    told = lines + [added]
+    if chance.random() < 0.8:
+        rows = {line: [names.index(name) for name in line.split()[1].split(".")] for line in told}
+        told = sorted(told, key=lambda line: (len(rows[line]), rows[line]))
+    return told
+
+
+def random_look(looks, chance):
+    """A look of few colours, often one of these looks from behind."""
+    if looks and chance.random() < 0.4:
+        look = chance.choice(looks)
+        return look[3::-1] + look[4:]
+    first = chance.choice(("0000", "1000", "2000", "1002", "1001", "2002", "0120", "0001"))
+    return first + chance.choice(("0" * 12, "0" * 12, "0" * 12, "0" * 4 + "3003" + "0" * 4))
+
+
+def random_locker(chance):
+    """A locker's text with few signs, some sames and looks of which many are alike in some light."""
+    labels = [f"sign {name}" for name in ("B", "A", "C3", "Q", "0")[:chance.randint(1, 5)]]
+    labels += [f"same {k}" for k in (1, 2, 3, 4) if chance.random() < 0.4] + ["answer"] * chance.randint(0, 1)
+    kinds = {}
+    while len(kinds) < len(labels):
+        look = random_look([kind.split()[1] for kind in kinds], chance)
+        kinds[chance.choice(("square",) * 6 + ("tails", "long")) + " " + look] = True
+    return "".join(line + "\n" for line in ["locker L"] + [f"{label} {chance.choice((1, 1, 2, 8))} {kind}"
+                                                           for label, kind in zip(labels, kinds)])
+
+
+def random_light(chance):
+    """A light: most colours in a class of their own, or all classes by chance."""
+    if chance.random() < 0.2:
+        return chance.choice((0, 2 ** 64 - 1, 0xfedcba9876543210, chance.randrange(2 ** 64)))
+    return sum(chance.choice((colour, colour, colour, 0, 1)) * 16 ** colour for colour in range(16))
+
+
+def random_sight(chance):
+    """A light, a locker's text and that of a book for it in which some hoists may look alike in that light."""
+    t = random_locker(chance)
+    rows = rows_shown(t, chance.choice((1, 2, 2, 2, 3, 4)))
+    return random_light(chance), t, random_book(t, rows, chance, 30)[1]

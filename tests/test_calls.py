@@ -4,7 +4,7 @@ import contextlib
 import io
 import unittest
 
-from flagbooks.desk import amend, find, judge, means, row, says
+from flagbooks.desk import amend, between, doubts, find, judge, means, row, says
 from tests.helper import Untouched, amend_words, book_words, locker_words, text
 from tests.helper import book_of_size, differ_at, many_signs
 
@@ -20,6 +20,11 @@ MEANINGS = (text("go"), text("wait a while"), text("wait"), [109] * 64, [109] * 
 AMENDMENTS = (text(amend_words([])), text(amend_words(["- A", "= B go", "+ A.B x", "- B.B"])),
               text(amend_words(["+ A x"])), text(amend_words(["+ A.A.A x"])), text(amend_words([], "Y")), [],
               [0] * 65536)
+# Books for between: alike, with other entries, without any, of another name, and what's no book.
+BOOKS = (B, text(book_words(["A stop", "A.B x"])), text(book_words([])), text(book_words([], "Y")), B[:-1], [],
+         [0] * 65536)
+# Lights and sides for doubts: some pairs, all, none, and what's no side.
+SIGHTS = ((0, 0), (0, 2), (LAST, 1), (0xfedcba9876543210, 0), (0xfedcba9876543210, 2), (LAST, 3), (0, LAST))
 
 
 def all_calls(t, b):
@@ -33,6 +38,10 @@ def all_calls(t, b):
         answers.append(means(t, b, m))
     for c in AMENDMENTS + ([0] * 65537,):
         answers.append(amend(t, b, c))
+    for c in BOOKS + ([0] * 65537,):
+        answers.append(between(t, b, c))
+    for light, side in SIGHTS:
+        answers.append(doubts(light, side, t, b))
     return answers
 
 
@@ -50,6 +59,11 @@ class Refusals(unittest.TestCase):
         for c in AMENDMENTS:
             self.assertEqual(amend(t, b, c), [-9, 0, 0] if answer[0] == -9 else answer)
         self.assertEqual(amend(t, b, [0] * 65537), [-2])
+        for c in BOOKS:
+            self.assertEqual(between(t, b, c), answer[:1])
+        self.assertEqual(between(t, b, [0] * 65537), [-2])
+        for light, side in SIGHTS:
+            self.assertEqual(doubts(light, side, t, b), answer[:1])
 
     def test_how_long_a_text_may_be(self):
         longest = text(book_of_size(65536))
@@ -126,6 +140,10 @@ class WhatIsHandedIn(unittest.TestCase):
                 c_handed = Untouched(c)
                 amend(t_handed, b_handed, c_handed)
                 self.assertEqual(list(c_handed), c)
+            for c in BOOKS:
+                c_handed = Untouched(c)
+                between(t_handed, b_handed, c_handed)
+                self.assertEqual(list(c_handed), c)
             self.assertEqual((list(t_handed), list(b_handed)), (t, b))
 
     def test_one_list_may_be_both(self):
@@ -137,6 +155,10 @@ class WhatIsHandedIn(unittest.TestCase):
         self.assertEqual(means(T, B, B), [-1])
         self.assertEqual(amend(T, B, B), [-9, 1, 0])
         self.assertEqual(amend(T, T, T), [-9, 0, 0])
+        self.assertEqual(between(T, B, B), [8] + text("amend X\n"))
+        self.assertEqual(between(T, T, T), [-9])
+        self.assertEqual(between(T, B, T), [-9])
+        self.assertEqual(doubts(0, 0, T, T), [-9])
 
 
 class WhatIsGivenBack(unittest.TestCase):
@@ -156,7 +178,10 @@ class WhatIsGivenBack(unittest.TestCase):
                      lambda: says(2, T, B), lambda: says(9, T, B), lambda: find(T, B, [1]), lambda: find(T, B, []),
                      lambda: find(T, B, [2]), lambda: find(T, B, [0, 0]), lambda: means(T, B, text("go")),
                      lambda: means(T, B, []), lambda: means(T, B, text("x")), lambda: amend(T, [], []),
-                     lambda: amend(T, B, AMENDMENTS[0]), lambda: amend(T, B, AMENDMENTS[1]), lambda: amend(T, B, [])):
+                     lambda: amend(T, B, AMENDMENTS[0]), lambda: amend(T, B, AMENDMENTS[1]), lambda: amend(T, B, []),
+                     lambda: between(T, B, B), lambda: between(T, B, BOOKS[1]), lambda: between(T, B, BOOKS[3]),
+                     lambda: between(T, B, []), lambda: doubts(0, 0, T, B), lambda: doubts(0, 3, T, B),
+                     lambda: doubts(SIGHTS[3][0], 0, T, B)):
             before = call()
             kept = list(before)
             before.extend([7, 7])

@@ -25,6 +25,21 @@ WORDS = re.compile(r"\b(type|typing|typing_extensions|enum|Enum|IntEnum|StrEnum|
                    r"dataclass|overload|contextmanager")
 TAKEN_VALUES = set(dir(str) + dir(int) + dir(list) + dir(dict) + dir(set) + dir(bytes) + ["args", "format", "sort"])
 FREE_VALUES = set("count index title find get join lower upper split strip copy add".split())
+WALKED = set("zip enumerate reversed range items keys values".split())
+WALKERS = set("list tuple dict sorted sum any all enumerate zip".split())
+
+
+def called(call):
+    """The name of the function or method that is called."""
+    return getattr(call.func, "id", None) or getattr(call.func, "attr", None)
+
+
+def walks(node, child):
+    """Whether a node walks what stands in it on the spot."""
+    if isinstance(node, (ast.For, ast.comprehension)):
+        return node.iter is child
+    return isinstance(node, ast.Call) and isinstance(node.func, ast.Name) and node.args[:1] == [child] and (
+        node.func.id in WALKERS or (node.func.id in ("min", "max") and len(node.args) == 1))
 
 
 class Form(unittest.TestCase):
@@ -125,6 +140,13 @@ class Form(unittest.TestCase):
             self.assertTrue(free, f"files that draw from one another: {drawn}")
             for name in free:
                 del drawn[name]
+
+    def test_walked_at_once(self):
+        for path in FILES:
+            for node in ast.walk(ast.parse(path.read_text())):
+                for child in ast.iter_child_nodes(node):
+                    if isinstance(child, ast.Call) and called(child) in WALKED:
+                        self.assertTrue(walks(node, child), f"{path.name}:{child.lineno}")
 
 
 if __name__ == "__main__":

@@ -1,33 +1,14 @@
-"""Promises 1 to 3, and the calls held against the rules' second writing over many spoilt texts."""
+"""Promises 1 to 5, each over many books."""
 
 import itertools
 import random
 import unittest
 
 from flagbooks.books import read_book
-from flagbooks.desk import amend, find, judge, means, row, says
-from flagbooks.hoists import can_show
+from flagbooks.desk import amend, between, doubts, find, judge, row, says
 from flagbooks.lockers import read_locker
-from tests.helper import Judged, amend_words, book_words, locker_words, text
-from tests.helper import second_amend, second_find, second_judge, second_means
-
-LOCKERS = (
-    locker_words([("A", 1)]),
-    locker_words([("A", 1), ("B", 2), ("C3", 1)], [(1, 1), (2, 2)], 1),
-    locker_words([("B", 1), ("A", 3)], [(2, 1), (3, 1), (4, 8)]),
-    locker_words([("Q", 2), ("A", 1), ("B", 1), ("C3", 1)], (), 3),
-)
-BOOKS = (
-    book_words([]),
-    book_words(["A go"]),
-    book_words(["A go", "A.A stop at once"]),
-    book_words(["A one", "B two", "A.B go alongside", "B.A.B 100% sure", "A.B.B.A.B.B six"]),
-    book_words(["B two", "A one", "B.A x", "B.A.A.A y", "A.B.B.A.A.A.B.B eight of them"]),
-    book_words(["Q q", "C3 c", "Q.Q q q", "Q.A.B.C3.Q all there is"]),
-)
-MEANINGS = ("go", "stop", "x", "go alongside", "one", "+ A x", "100% sure", "m" * 64)
-PIECES = ("\n", " ", ".", "A", "B", "C3", "Q", "x", "1", "9", "0", "same", "sign", "A x\n", "A.B y\n", "\r", "\xff",
-          "~")
+from tests.helper import BOOKS, LOCKERS, amend_words, book_words, locker_words, text
+from tests.helper import lines_moved, random_book, random_changes, random_locker, random_sight, rows_shown, spoilt
 
 
 def text_of(locker, book):
@@ -36,82 +17,6 @@ def text_of(locker, book):
     rows = [".".join(names[sign] for sign in entry.row) for entry in book.entries]
     lines = [told + " " + bytes(entry.meaning).decode() for told, entry in zip(rows, book.entries)]
     return text(book_words(lines, bytes(book.name).decode(), bytes(locker.name).decode()))
-
-
-def spoilt(words, chance):
-    """The text with one to three small changes."""
-    for change in range(chance.randint(1, 3)):
-        place = chance.randint(0, len(words))
-        reach = chance.choice((0, 0, 1, 1, 2, 5, 12))
-        piece = chance.choice(PIECES + ("", "", words[place:place + reach] * 2))
-        words = words[:place] + piece + words[place + reach:]
-    return words
-
-
-def lines_moved(words, chance):
-    """The text with a line elsewhere, twice or gone."""
-    lines = words.splitlines(keepends=True)
-    line = lines[chance.randrange(len(lines))]
-    if chance.random() < 0.7:
-        lines.remove(line)
-    if chance.random() < 0.7:
-        lines.insert(chance.randint(0, len(lines)), line)
-    return "".join(lines)
-
-
-def rows_shown(t):
-    """Rows of up to four signs that a hoist alone can show out of the locker, in the order of rows."""
-    locker = read_locker(text(t))
-    rows = [signs for length in range(1, 5) for signs in itertools.product(range(len(locker.signs)), repeat=length)]
-    return [signs for signs in rows if can_show(locker, list(signs))]
-
-
-def written(t, signs):
-    """A row's word."""
-    names = [line.split()[1] for line in t.splitlines() if line.startswith("sign")]
-    return ".".join(names[sign] for sign in signs)
-
-
-def random_book(t, rows, chance):
-    """Meanings by their rows, a few of these rows, and the text of the book that has them."""
-    chosen = sorted(chance.sample(rows, chance.randint(0, min(8, len(rows)))), key=rows.index)
-    meanings = {signs: chance.choice(MEANINGS) for signs in chosen}
-    return meanings, book_words(f"{written(t, signs)} {meanings[signs]}" for signs in chosen)
-
-
-def random_changes(t, rows, meanings, chance):
-    """Lines of an amendment on a book with these meanings, and the meanings by their rows that it makes."""
-    made, lines = {}, []
-    for signs in rows:
-        meaning = chance.choice(MEANINGS)
-        word = written(t, signs)
-        if signs not in meanings and chance.random() < 0.2:
-            made[signs] = meaning
-            lines.append(f"+ {word} {meaning}")
-        elif signs in meanings and chance.random() < 0.3:
-            lines.append(f"- {word}")
-        elif signs in meanings and chance.random() < 0.4 and meaning != meanings[signs]:
-            made[signs] = meaning
-            lines.append(f"= {word} {meaning}")
-        elif signs in meanings:
-            made[signs] = meanings[signs]
-    return lines, made
-
-
-def with_a_line(t, lines, meanings, chance):
-    """The lines of an amendment with another whose row and mark come by chance, mostly where its row must stand."""
-    names = [line.split()[1] for line in t.splitlines() if line.startswith("sign")]
-    signs = tuple(chance.randrange(len(names)) for place in range(chance.randint(1, 5)))
-    if meanings and chance.random() < 0.5:
-        signs = chance.choice(list(meanings))
-    meaning = chance.choice((meanings.get(signs, "x"), "x"))
-    mark = chance.choice("+-=")
-    added = f"{mark} {written(t, signs)}" + (f" {meaning}" if mark != "-" else "")
-    told = lines + [added]
-    if chance.random() < 0.8:
-        rows = {line: [names.index(name) for name in line.split()[1].split(".")] for line in told}
-        told = sorted(told, key=lambda line: (len(rows[line]), rows[line]))
-    return told
 
 
 class OneTextOneBook(unittest.TestCase):
@@ -246,105 +151,142 @@ class JustWhatTheAmendmentSays(unittest.TestCase):
             self.assertEqual((answer[0], len(answer)), (-9, 3), line)
 
 
-class AgainstTheSecondWriting(unittest.TestCase):
-    def check(self, t, b):
-        answer, entries = second_judge(text(t), text(b))
-        self.assertEqual(judge(text(t), text(b)), answer, (t, b))
-        if answer[0] < 0:
-            self.assertEqual(row(0, text(t), text(b)), answer[:1], (t, b))
-            self.assertEqual(says(0, text(t), text(b)), answer[:1], (t, b))
-            self.assertEqual(find(text(t), text(b), [0]), answer[:1], (t, b))
-        for i, (signs, meaning) in enumerate(entries):
-            self.assertEqual(row(i, text(t), text(b)), [len(signs)] + signs, (t, b))
-            self.assertEqual(says(i, text(t), text(b)), [len(meaning)] + meaning, (t, b))
-            self.assertEqual(find(text(t), text(b), signs), [i], (t, b))
-        return tuple(answer[:2]) if answer[0] < 0 else "taken"
+class BetweenTwoBooks(unittest.TestCase):
+    """Promise 4: the amendment between two makes the second of the first, and it's the only one."""
 
-    def test_spoilt_books(self):
-        chance = random.Random(5)
-        seen = {}
-        for turn in range(4000):
-            change = chance.choice((spoilt, lines_moved))
-            outcome = self.check(chance.choice(LOCKERS), change(chance.choice(BOOKS), chance))
-            seen[outcome] = seen.get(outcome, 0) + 1
-        self.assertEqual(set(seen), {(-9, 1), (-9, 2), (-9, 3), (-9, 4), (-9, 5), "taken"})
-        self.assertGreater(min(seen.values()), 20)
+    def two_books(self, chance):
+        """A locker's text and two books for it, whose rows are partly the same."""
+        t = chance.choice(LOCKERS + (random_locker(chance),))
+        rows = chance.sample(rows_shown(t), min(12, len(rows_shown(t))))
+        rows = sorted(rows, key=lambda signs: (len(signs), signs))
+        return [text(t)] + [text(random_book(t, rows, chance, 12)[1]) for book in range(2)]
 
-    def test_spoilt_lockers(self):
-        chance = random.Random(7)
-        for turn in range(3000):
-            change = chance.choice((spoilt, lines_moved))
-            t = change(chance.choice(LOCKERS), chance)
-            self.assertEqual(read_locker(text(t)).fault, Judged(bytes(text(t))).fault or [], t)
-            self.check(t, chance.choice(BOOKS))
+    def test_it_makes_the_second_of_the_first(self):
+        chance = random.Random(71)
+        for turn in range(400):
+            t, b, c = self.two_books(chance)
+            there, back = between(t, b, c), between(t, c, b)
+            self.assertEqual((there[0], back[0]), (len(there) - 1, len(back) - 1))
+            self.assertEqual(amend(t, b, there[1:]), [len(c)] + c)
+            self.assertEqual(amend(t, c, back[1:]), [len(b)] + b)
+            self.assertEqual(there == back, b == c)
 
-    def test_rows_at_random(self):
-        chance = random.Random(3)
+    def test_any_amendment_is_told_again(self):
+        """So no other amendment than the one told makes the second book of the first."""
+        chance = random.Random(73)
+        changing = 0
+        for turn in range(400):
+            t = chance.choice(LOCKERS + (random_locker(chance),))
+            rows = chance.sample(rows_shown(t), min(12, len(rows_shown(t))))
+            rows = sorted(rows, key=lambda signs: (len(signs), signs))
+            meanings, b = random_book(t, rows, chance)
+            words = text(amend_words(random_changes(t, rows, meanings, chance)[0]))
+            made = amend(text(t), text(b), words)[1:]
+            self.assertEqual(between(text(t), text(b), made), [len(words)] + words)
+            changing = changing + (made != text(b))
+        self.assertGreater(changing, 200)
+
+    def test_spoilt_amendments_that_are_taken_are_told_again(self):
+        chance = random.Random(79)
+        taken = 0
         for turn in range(1500):
-            sames = [(k, chance.choice((1, 1, 2, 3))) for k in (1, 2, 3, 4) if chance.random() < 0.6]
-            signs = [(name, chance.choice((1, 1, 2, 3))) for name in ("A", "B", "C3")[:chance.randint(1, 3)]]
-            names = [chance.choice(signs)[0] for place in range(chance.randint(1, 8))]
-            self.check(locker_words(signs, sames), book_words([".".join(names) + " x"]))
+            t, b, c = self.two_books(chance)
+            words = between(t, b, c)[1:]
+            other = text(chance.choice((spoilt, lines_moved))(bytes(words).decode(), chance))
+            made = amend(t, b, other)
+            if made[0] >= 0:
+                taken = taken + 1
+                self.assertEqual(between(t, b, made[1:]), [len(other)] + other)
+                self.assertEqual(made[1:] == c, other == words)
+        self.assertGreater(taken, 200)
 
-    def test_rows_to_find_at_random(self):
-        chance = random.Random(13)
-        seen = {}
-        for turn in range(6000):
-            t, b = text(chance.choice(LOCKERS)), text(chance.choice(BOOKS))
-            entries = second_judge(t, b)[1]
-            signs = [chance.choice((0, 0, 1, 1, 2, 3, 4)) for place in range(chance.randint(0, 10))]
-            if entries and chance.random() < 0.6:
-                signs = list(chance.choice(entries)[0])
-            if signs and chance.random() < 0.4:
-                signs[chance.randrange(len(signs))] = chance.choice((0, 1, 2, 3, 4, 5, 6, 7, 48, 255))
-            answer = second_find(t, b, signs)
-            self.assertEqual(find(t, b, signs), answer, (t, b, signs))
-            outcome = min(answer[0], 0)
-            seen[outcome] = seen.get(outcome, 0) + 1
-        self.assertEqual(set(seen), {0, -1, -4, -5, -9})
-        self.assertGreater(min(seen.values()), 100)
+    def test_nothing_stands_between_a_book_and_itself(self):
+        taken = 0
+        for t, b in itertools.product(LOCKERS, BOOKS):
+            if judge(text(t), text(b))[0] >= 0:
+                taken = taken + 1
+                self.assertEqual(between(text(t), text(b), text(b)), [8] + text("amend X\n"))
+        self.assertGreater(taken, 8)
 
-    def test_meanings_at_random(self):
-        chance = random.Random(23)
-        seen = {}
-        for turn in range(4000):
-            t, b = chance.choice(LOCKERS), chance.choice(BOOKS)
-            m = chance.choice(MEANINGS)
-            entries = second_judge(text(t), text(b))[1]
-            if entries and chance.random() < 0.6:
-                m = bytes(chance.choice(entries)[1]).decode()
-            if chance.random() < 0.5:
-                m = spoilt(m, chance)
-            answer = second_means(text(t), text(b), text(m))
-            self.assertEqual(means(text(t), text(b), text(m)), answer, (t, b, m))
-            outcome = min(answer[0], 0)
-            seen[outcome] = seen.get(outcome, 0) + 1
-        self.assertEqual(set(seen), {0, -1, -5, -9})
-        self.assertGreater(min(seen.values()), 100)
-
-    def test_amendments_at_random(self):
-        """Amendments that are right, and such with a few bytes or lines spoilt."""
-        chance = random.Random(29)
-        seen = {}
-        rows = {t: rows_shown(t) for t in LOCKERS}
-        for turn in range(5000):
+    def test_by_way_of_a_third_book(self):
+        chance = random.Random(83)
+        for turn in range(100):
             t = chance.choice(LOCKERS)
-            meanings, b = random_book(t, rows[t], chance)
-            lines = random_changes(t, rows[t], meanings, chance)[0]
-            lines = sorted(chance.sample(lines, min(len(lines), 6)), key=lines.index)
-            if chance.random() < 0.4:
-                lines = with_a_line(t, lines, meanings, chance)
-            c = amend_words(lines, chance.choice("XXXXXXXXXY"))
-            for change in chance.choice(((), (), (spoilt,), (lines_moved,), (lines_moved, spoilt))):
-                c = change(c, chance)
-            if chance.random() < 0.2:
-                b = chance.choice((spoilt, lines_moved))(b, chance)
-            answer = second_amend(text(t), text(b), text(c))
-            self.assertEqual(amend(text(t), text(b), text(c)), answer, (t, b, c))
-            outcome = tuple(answer[:2]) if answer[0] < 0 else "taken"
-            seen[outcome] = seen.get(outcome, 0) + 1
-        self.assertEqual(set(seen), {(-9, 0), (-9, 1), (-9, 2), (-9, 3), (-9, 4), (-9, 5), (-9, 6), "taken"})
-        self.assertGreater(min(seen.values()), 50, seen)
+            b, c, third = (text(random_book(t, rows_shown(t), chance)[1]) for book in range(3))
+            step = amend(text(t), b, between(text(t), b, third)[1:])[1:]
+            self.assertEqual(amend(text(t), step, between(text(t), third, c)[1:])[1:], c)
+
+
+class Classes(unittest.TestCase):
+    """Promise 5: which entries can be taken for one another parts them into classes."""
+
+    def books(self, seed, turns):
+        """A light, a locker's and a book's text, and how many entries the book has."""
+        chance = random.Random(seed)
+        for turn in range(turns):
+            light, t, b = random_sight(chance)
+            yield light, text(t), text(b), judge(text(t), text(b))[0]
+
+    def pairs(self, light, side, t, b):
+        answer = doubts(light, side, t, b)
+        self.assertEqual(len(answer), 1 + 2 * answer[0])
+        return list(zip(answer[1::2], answer[2::2]))
+
+    def test_pairs_rise(self):
+        for light, t, b, count in self.books(89, 300):
+            for side in (0, 1, 2):
+                pairs = self.pairs(light, side, t, b)
+                self.assertEqual(pairs, sorted(set(pairs)))
+                self.assertTrue(all(0 <= i < j < count for i, j in pairs))
+
+    def test_it_goes_on_from_one_to_the_next(self):
+        """Whoever is alike to a third is alike to one another: no entry is in two classes."""
+        large = 0
+        for light, t, b, count in self.books(97, 500):
+            for side in (0, 1, 2):
+                pairs = self.pairs(light, side, t, b)
+                both_ways = set(pairs) | {(j, i) for i, j in pairs} | {(i, i) for i in range(count)}
+                alike = [frozenset(j for j in range(count) if (i, j) in both_ways) for i in range(count)]
+                for i, j in both_ways:
+                    self.assertEqual(alike[i], alike[j])
+                self.assertEqual(sum(len(told) for told in set(alike)), count)
+                large = large + (max(map(len, alike), default=0) > 2)
+        self.assertGreater(large, 80)
+
+    def test_it_is_the_same_both_ways(self):
+        """With the signs the other way round in the locker, the two entries change their places and stay a pair."""
+        alike = 0
+        for one, other in itertools.permutations(("1000", "0001", "2000", "0002", "1001", "2002"), 2):
+            lines = [f"sign {name} 1 square {told}{'0' * 12}\n" for name, told in (("A", one), ("B", other))]
+            for light, side in itertools.product((0, 0xfedcba9876543210, 0xfedcba9876543220), (0, 1, 2)):
+                there = doubts(light, side, text("locker L\n" + "".join(lines)), text(book_words(["A x", "B x"])))
+                back = doubts(light, side, text("locker L\n" + "".join(lines[::-1])), text(book_words(["B x", "A x"])))
+                self.assertEqual(there, back)
+                alike = alike + there[0]
+        self.assertGreater(alike, 100)
+
+    def test_classes_of_one_side_and_of_either(self):
+        """From either side no pair is lost; from behind there are those that there are from the front."""
+        more = 0
+        for light, t, b, count in self.books(101, 500):
+            front, behind, either = (self.pairs(light, side, t, b) for side in (0, 1, 2))
+            self.assertEqual(front, behind)
+            self.assertLessEqual(set(front), set(either))
+            more = more + (len(either) > len(front))
+        self.assertGreater(more, 30)
+
+    def test_where_all_colours_differ_no_two_entries_are_alike(self):
+        for light, t, b, count in self.books(103, 200):
+            for distinct in (0xfedcba9876543210, 0x0123456789abcdef):
+                self.assertEqual(doubts(distinct, 0, t, b), [0])
+                self.assertEqual(doubts(distinct, 1, t, b), [0])
+
+    def test_a_light_with_fewer_classes_loses_no_pair(self):
+        for light, t, b, count in self.books(107, 300):
+            fewer = sum((light // 16 ** colour % 16) // 2 * 16 ** colour for colour in range(16))
+            for side in (0, 1, 2):
+                self.assertLessEqual(set(self.pairs(light, side, t, b)), set(self.pairs(fewer, side, t, b)))
+                self.assertLessEqual(set(self.pairs(fewer, side, t, b)), set(self.pairs(0, side, t, b)))
 
 
 if __name__ == "__main__":
